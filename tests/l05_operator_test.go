@@ -498,20 +498,22 @@ func TestOperandErrorsKnown(t *testing.T) {
 	checkBothWays(t, impl.OpAdd, nested(4), numbers(), failure(4))
 }
 
+// codeOf returns the code of an error, and 0 for other values.
+func codeOf(v impl.Value) int {
+	if v.Kind == 6 {
+		return v.N
+	}
+	return 0
+}
+
 func TestOperatorsRandomValues(t *testing.T) {
 	random := rand.New(rand.NewSource(5))
 	bad := failings()
-	code := func(v impl.Value) int {
-		if v.Kind == 6 {
-			return v.N
-		}
-		return 0
-	}
 	for range 20000 {
 		f := []failing{{}, {}}
 		for i := range f {
 			f[i].v = randomValue(random, 0)
-			f[i].code = code(f[i].v)
+			f[i].code = codeOf(f[i].v)
 			if random.Intn(8) == 0 {
 				f[i] = bad[random.Intn(len(bad))]
 			}
@@ -534,14 +536,19 @@ func TestOperatorsRandomValues(t *testing.T) {
 
 // Promise 48: every function is total and does not modify its arguments.
 
-func TestOperatorsOfLargeValues(t *testing.T) {
+// largeValues are invalid values that are too large for what walks through all of them by calling itself.
+func largeValues() []impl.Value {
 	const size = 300000
 	self := make([]impl.Value, 1)
 	self[0] = impl.Value{Kind: impl.ValueList, List: self}
-	for _, v := range []impl.Value{
+	return []impl.Value{
 		nested(size), numbers(make([]int, size)...), impl.TextValue(strings.Repeat("x", size)),
 		tableValue([]string{"a"}, make([][]int, size)...), self[0],
-	} {
+	}
+}
+
+func TestOperatorsOfLargeValues(t *testing.T) {
+	for _, v := range largeValues() {
 		for _, op := range everyNumberOfAnOperator() {
 			checkLarge(t, op, v, impl.NumberValue(1), 4)
 			checkLarge(t, op, impl.NumberValue(1), v, 4)
