@@ -16,9 +16,9 @@ import (
 
 const limit = 1000000000
 
-// A listFunction is a function of the chapter and its meaning: its result for operands that are valid and not errors,
+// A valueFunction is a function of values to a value and its meaning: its result for operands that are valid and not errors,
 // found with none of the functions that are tested.
-type listFunction struct {
+type valueFunction struct {
 	name    string
 	count   int
 	call    func(operands ...impl.Value) impl.Value
@@ -33,25 +33,29 @@ func ofTwo(f func(n, v impl.Value) impl.Value) func(...impl.Value) impl.Value {
 	return func(operands ...impl.Value) impl.Value { return f(operands[0], operands[1]) }
 }
 
-func lengthOf() listFunction {
-	return listFunction{"LengthOf", 1, ofOne(impl.LengthOf), ofOne(lengthMeaning)}
+func lengthOf() valueFunction {
+	return valueFunction{"LengthOf", 1, ofOne(impl.LengthOf), ofOne(lengthMeaning)}
 }
 
-func sumOf() listFunction { return listFunction{"SumOf", 1, ofOne(impl.SumOf), ofOne(sumMeaning)} }
+func sumOf() valueFunction { return valueFunction{"SumOf", 1, ofOne(impl.SumOf), ofOne(sumMeaning)} }
 
-func nthOf() listFunction { return listFunction{"NthOf", 2, ofTwo(impl.NthOf), ofTwo(nthMeaning)} }
+func nthOf() valueFunction { return valueFunction{"NthOf", 2, ofTwo(impl.NthOf), ofTwo(nthMeaning)} }
 
-func takeOf() listFunction { return listFunction{"TakeOf", 2, ofTwo(impl.TakeOf), ofTwo(takeMeaning)} }
+func takeOf() valueFunction {
+	return valueFunction{"TakeOf", 2, ofTwo(impl.TakeOf), ofTwo(takeMeaning)}
+}
 
-func skipOf() listFunction { return listFunction{"SkipOf", 2, ofTwo(impl.SkipOf), ofTwo(skipMeaning)} }
+func skipOf() valueFunction {
+	return valueFunction{"SkipOf", 2, ofTwo(impl.SkipOf), ofTwo(skipMeaning)}
+}
 
-func functionsOfOne() []listFunction { return []listFunction{lengthOf(), sumOf()} }
+func functionsOfOne() []valueFunction { return []valueFunction{lengthOf(), sumOf()} }
 
-func functionsOfTwo() []listFunction { return []listFunction{nthOf(), takeOf(), skipOf()} }
+func functionsOfTwo() []valueFunction { return []valueFunction{nthOf(), takeOf(), skipOf()} }
 
-func everyListFunction() []listFunction { return append(functionsOfOne(), functionsOfTwo()...) }
+func everyListFunction() []valueFunction { return append(functionsOfOne(), functionsOfTwo()...) }
 
-func (f listFunction) check(t *testing.T, want impl.Value, operands ...impl.Value) {
+func (f valueFunction) check(t *testing.T, want impl.Value, operands ...impl.Value) {
 	t.Helper()
 	got := f.call(operands...)
 	if !reflect.DeepEqual(normal(got), normal(want)) {
@@ -62,7 +66,7 @@ func (f listFunction) check(t *testing.T, want impl.Value, operands ...impl.Valu
 	}
 }
 
-func (f listFunction) checkMeaning(t *testing.T, operands ...impl.Value) {
+func (f valueFunction) checkMeaning(t *testing.T, operands ...impl.Value) {
 	t.Helper()
 	f.check(t, f.meaning(operands...), operands...)
 }
@@ -698,28 +702,28 @@ func TestListFunctionsOfLargeValues(t *testing.T) {
 }
 
 // checkLarge does not print the operands.
-func (f listFunction) checkLarge(t *testing.T, code int, operands ...impl.Value) {
+func (f valueFunction) checkLarge(t *testing.T, code int, operands ...impl.Value) {
 	t.Helper()
 	if got := f.call(operands...); !reflect.DeepEqual(normal(got), failure(code)) {
 		t.Errorf("%s of a large value = %+v, want the error %d", f.name, got, code)
 	}
 }
 
-// A listCall is a function of the chapter with operands.
-type listCall struct {
-	f        listFunction
+// A valueCall is such a function with operands.
+type valueCall struct {
+	f        valueFunction
 	operands []impl.Value
 }
 
 // spacious returns the same call with operands that have unused capacity.
-func (c listCall) spacious() listCall { return listCall{c.f, normalEach(c.operands, spacious)} }
+func (c valueCall) spacious() valueCall { return valueCall{c.f, normalEach(c.operands, spacious)} }
 
-func (c listCall) wholeOperands() []impl.Value { return normalEach(c.operands, whole) }
+func (c valueCall) wholeOperands() []impl.Value { return normalEach(c.operands, whole) }
 
-func (c listCall) result() impl.Value { return c.f.call(c.operands...) }
+func (c valueCall) result() impl.Value { return c.f.call(c.operands...) }
 
 // listCalls are calls of every function for which it has something to do, and failing ones.
-func listCalls() []listCall {
+func listCalls() []valueCall {
 	inner := numbers(1, 2)
 	all := slices.Concat(mixedLists(), longLists(), []impl.Value{
 		numbers(), numbers(1, 2, 3), impl.TextValue("ab"), impl.StreamValue(5, 3), impl.StreamValue(limit, 1), impl.NumberValue(3),
@@ -730,56 +734,68 @@ func listCalls() []listCall {
 	for _, bad := range failings()[:12] {
 		all = append(all, bad.v)
 	}
-	var calls []listCall
+	var calls []valueCall
 	for _, v := range all {
 		for _, f := range functionsOfOne() {
-			calls = append(calls, listCall{f, []impl.Value{v}})
+			calls = append(calls, valueCall{f, []impl.Value{v}})
 		}
 		for _, n := range []impl.Value{impl.NumberValue(0), impl.NumberValue(1), impl.NumberValue(2), impl.NumberValue(8), impl.NumberValue(9), impl.NumberValue(-1), impl.ErrorValue(5), numbers(1), fullValue(), v} {
 			for _, f := range functionsOfTwo() {
-				calls = append(calls, listCall{f, []impl.Value{n, v}})
+				calls = append(calls, valueCall{f, []impl.Value{n, v}})
 			}
 		}
 	}
 	return calls
 }
 
+// checkKeepsOperands checks that the function does not change its operands, and that its result shares no memory with them.
+func (c valueCall) checkKeepsOperands(t *testing.T) {
+	t.Helper()
+	used := c.spacious()
+	want := used.wholeOperands()
+	result := used.result()
+	if got := used.wholeOperands(); !reflect.DeepEqual(got, want) {
+		t.Errorf("%s changed its operands %+v to %+v", used.f.name, want, got)
+	}
+	if expected := normal(c.result()); !reflect.DeepEqual(normal(result), expected) {
+		t.Errorf("%s of %+v = %+v, with spare capacity %+v", used.f.name, c.operands, expected, result)
+	}
+	spoil(result)
+	if got := used.wholeOperands(); !reflect.DeepEqual(got, want) {
+		t.Errorf("the result of %s shares memory with its operands %+v", used.f.name, want)
+	}
+}
+
+// checkIndependent checks that the results of two calls share no memory with the operands, each other or themselves.
+func (c valueCall) checkIndependent(t *testing.T) {
+	t.Helper()
+	used := c.spacious()
+	first, second := used.result(), used.result()
+	want := normal(first)
+	for _, v := range used.operands {
+		spoil(v)
+	}
+	if !reflect.DeepEqual(normal(first), want) || !reflect.DeepEqual(normal(second), want) {
+		t.Errorf("the result of %s of %+v changed with its operands", used.f.name, c.operands)
+	}
+	spoil(second)
+	if !reflect.DeepEqual(normal(first), want) {
+		t.Errorf("the result of %s of %+v changed with another result", used.f.name, c.operands)
+	}
+	for i := range spoilers(first) {
+		checkOneSpoiled(t, c.result(), i)
+	}
+}
+
 func TestListFunctionsKeepTheirArguments(t *testing.T) {
-	for _, sample := range listCalls() {
-		c := sample.spacious()
-		want := c.wholeOperands()
-		result := c.result()
-		if got := c.wholeOperands(); !reflect.DeepEqual(got, want) {
-			t.Errorf("%s changed its operands %+v to %+v", c.f.name, want, got)
-		}
-		if expected := normal(sample.result()); !reflect.DeepEqual(normal(result), expected) {
-			t.Errorf("%s of %+v = %+v, with spare capacity %+v", c.f.name, sample.operands, expected, result)
-		}
-		spoil(result)
-		if got := c.wholeOperands(); !reflect.DeepEqual(got, want) {
-			t.Errorf("the result of %s shares memory with its operands %+v", c.f.name, want)
-		}
+	for _, c := range listCalls() {
+		c.checkKeepsOperands(t)
 	}
 }
 
 func TestListResultsAreIndependent(t *testing.T) {
-	for _, sample := range listCalls() {
-		c := sample.spacious()
-		first, second := c.result(), c.result()
-		want := normal(first)
-		for _, v := range c.operands {
-			spoil(v)
-		}
-		if !reflect.DeepEqual(normal(first), want) || !reflect.DeepEqual(normal(second), want) {
-			t.Errorf("the result of %s of %+v changed with its operands", c.f.name, sample.operands)
-		}
-		spoil(second)
-		if !reflect.DeepEqual(normal(first), want) {
-			t.Errorf("the result of %s of %+v changed with another result", c.f.name, sample.operands)
-		}
-		for i := range spoilers(first) {
-			checkOneSpoiled(t, sample.result(), i)
-		}
+	for _, c := range listCalls() {
+		c.checkIndependent(t)
 	}
 }
 
